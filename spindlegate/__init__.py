@@ -1,0 +1,1 @@
+"""Spindlegate: shared block storage for several hosts over several paths."""

@@ -1,0 +1,86 @@
+"""The section "The interface": names, arguments, and the file in which each one is defined."""
+
+import ast
+import inspect
+import unittest
+from importlib import import_module
+
+# For each module: its functions, and its classes with their arguments and methods.
+FUNCTIONS = {
+    "errors": {},
+    "flash": {"flash_from": "image"},
+    "records": {
+        "make_record": "order kind host session counter fields",
+        "is_record": "value",
+        "field_count": "kind",
+        "fields_of": "record",
+        "answer_of": "record",
+        "effects": "record",
+    },
+    "log": {},
+}
+CLASSES = {
+    "errors": {"SpindleError": {}, "NotValid": {}, "PowerOff": {}, "BadFlash": {}, "NoRoom": {}},
+    "flash": {
+        "Flash": {
+            "__init__": "self blocks",
+            "read": "self block page",
+            "program": "self block page record",
+            "erase": "self block",
+            "wear": "self block",
+            "fail_after": "self count",
+            "cut": "self choice",
+            "image": "self",
+        },
+    },
+    "records": {},
+    "log": {
+        "Log": {
+            "__init__": "self flash",
+            "append": "self record is_copy",
+            "room": "self is_copy",
+            "erase": "self block",
+            "state": "self block",
+            "free_blocks": "self",
+            "closed_blocks": "self",
+            "pages": "self block",
+            "records": "self",
+            "top": "self",
+            "holders": "self record",
+        },
+    },
+}
+
+
+def arguments(function):
+    return " ".join(inspect.signature(function).parameters)
+
+
+def defined_in(module):
+    """The names of the functions and classes that stand in the file of a module."""
+    with open(module.__file__, encoding="utf-8") as source:
+        tree = ast.parse(source.read())
+    return [node.name for node in tree.body if isinstance(node, (ast.FunctionDef, ast.ClassDef))]
+
+
+class InterfaceTest(unittest.TestCase):
+    def test_functions(self):
+        for name, functions in FUNCTIONS.items():
+            module = import_module(f"spindlegate.{name}")
+            for function, expected in functions.items():
+                self.assertIn(function, defined_in(module))
+                self.assertEqual(arguments(getattr(module, function)), expected)
+
+    def test_classes(self):
+        for name, classes in CLASSES.items():
+            module = import_module(f"spindlegate.{name}")
+            for class_name, methods in classes.items():
+                self.assertIn(class_name, defined_in(module))
+                own = vars(getattr(module, class_name))
+                for method, expected in methods.items():
+                    self.assertIn(method, own)
+                    self.assertEqual(arguments(own[method]), expected)
+
+
+if __name__ == "__main__":
+    unittest.main()
