@@ -1,9 +1,9 @@
 """The log: it keeps records on the pages of a flash, one behind the other."""
 
-from spindlegate.bounds import is_between, is_whole
+from spindlegate.bounds import is_between
 from spindlegate.errors import BadFlash, NoRoom, NotValid
 from spindlegate.flash import PAGES, first_erased
-from spindlegate.records import each_once
+from spindlegate.records import each_once, is_record
 
 
 class Log:
@@ -67,7 +67,7 @@ class Log:
 
     def records(self):
         """Return the records in ascending order, each once."""
-        return each_once([page for pages in self._contents for page in pages if _has_order(page)])
+        return each_once([page for pages in self._contents for page in pages if is_record(page)])
 
     def top(self):
         """Return the greatest order, 0 if there is no record."""
@@ -92,9 +92,3 @@ class Log:
 
 def _read_block(flash, block):
     return [flash.read(block, page) for page in range(PAGES)]
-
-
-def _has_order(page):
-    """Return True if the page holds a tuple that begins with an order."""
-    # Opening refuses no tuple, and one without an order has no place among the records.
-    return isinstance(page, tuple) and len(page) > 0 and is_whole(page[0])

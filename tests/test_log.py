@@ -388,12 +388,41 @@ class OpeningTest(unittest.TestCase):
         self.assertEqual(log.records(), [a_record(3)])
         self.assertEqual(log.top(), 3)
 
-    def test_the_bounds_of_records_are_not_looked_at(self):
-        beyond = [(7, "write", 4, 0, 0, 9, 64, 1), (5,)]
-        log = filled_log([beyond])
-        self.assertEqual(log.records(), beyond[::-1])
-        self.assertEqual(log.top(), 7)
-        self.assertEqual(log.holders((5,)), [0])
+    def test_tuples_that_are_no_records_are_none_of_the_records(self):
+        record = (1, "write", 0, 1, 1, 3, 2, 9)
+        log = filled_log([[(5,), (7, "x"), record]])
+        self.assertEqual(log.records(), [record])
+        self.assertEqual(log.top(), 1)
+        self.assertEqual(log.pages(0), [(5,), (7, "x"), record, *[None] * 5])
+        self.assertEqual((log.state(0), log.room(False), log.room(True)), ("open", 5 + 6 * 8, 5 + 7 * 8))
+        self.assertEqual([log.holders(page) for page in ((5,), record)], [[0], [0]])
+
+    def test_tuples_that_are_no_records_alone(self):
+        log = filled_log([[(5,), (7, "x")]])
+        self.assertEqual(log.records(), [])
+        self.assertEqual(log.top(), 0)
+        self.assertEqual(log.state(0), "open")
+        log = filled_log([[(9, at) for at in range(8)]])
+        self.assertEqual((log.records(), log.top(), log.closed_blocks()), ([], 0, [0]))
+
+    def test_the_bounds_of_records_are_looked_at(self):
+        within = (6, "write", 3, 1, 1, 8, 63, 1)
+        for beyond in (
+            (7, "write", 4, 1, 1, 8, 63, 1), (7, "write", 3, 0, 1, 8, 63, 1), (7, "write", 3, 1, 0, 8, 63, 1),
+            (7, "write", 3, 1, 1, 9, 63, 1), (7, "write", 3, 1, 1, 8, 64, 1), (7, "write", 3, 1, 1, 8, 63, True),
+            (7, "write", 3, 1, 1, 8, 63), (7, "write", 3, 1, 1, 8, 63, 1, 1), (7, "wrote", 3, 1, 1, 8, 63, 1),
+            (7, "mark", 3, 1, 1, None), (7, "drop", 3, 1, 1, 8, 7), (True, *within[1:]), (0, *within[1:]),
+        ):
+            log = filled_log([[beyond, within]])
+            self.assertEqual(log.records(), [within])
+            self.assertEqual(log.top(), 6)
+            self.assertEqual(log.pages(0)[:2], [beyond, within])
+
+    def test_a_tuple_that_is_appended_is_a_record_only_within_the_bounds(self):
+        log = Log(Flash(8))
+        log.append((9, "x"), False)
+        append_all(log, (4,))
+        self.assertEqual((log.records(), log.top(), log.room(False)), ([a_record(4)], 4, 54))
 
 
 class CutTest(unittest.TestCase):
