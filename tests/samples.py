@@ -3,6 +3,7 @@
 from spindlegate.errors import NotValid, PowerOff
 from spindlegate.flash import PAGES, Flash
 from spindlegate.log import Log
+from spindlegate.records import make_record
 
 # Values that are no integers, in the place of one.
 NO_INTEGERS = (True, False, None, "1", 1.0, (), [])
@@ -33,6 +34,12 @@ def counter_of(kind):
 def a_record(order):
     """A record with this order."""
     return (order, "write", 1, 2, order, 3, order % 64, -order)
+
+
+def of_host(host, *rows):
+    """Records of one host, the orders from 1 on: each row is a kind and its fields."""
+    return [make_record(order, row[0], host, 1, 0 if row[0] == "mark" else order, row[1:])
+            for order, row in enumerate(rows, 1)]
 
 
 def filled_flash(image):

@@ -18,6 +18,32 @@ FUNCTIONS = {
         "effects": "record",
     },
     "log": {},
+    "index": {
+        "value_at": "records topic snapshot",
+        "snapshots_of": "records namespace",
+        "live_records": "records",
+        "core": "records",
+        "shared_places": "records",
+        "need": "records",
+    },
+    "collector": {"needed_records": "log block", "victim": "log", "collect": "log many"},
+    "state": {
+        "new_state": "",
+        "apply_record": "state record",
+        "fold": "records",
+        "space_of": "state namespace",
+        "read_cell": "state namespace place",
+        "read_snapshot": "state namespace number place",
+    },
+    "fences": {
+        "key_of": "fence host",
+        "holder_way": "fence host",
+        "refusal": "fence host key command",
+        "changes_nothing": "fence host command",
+        "with_key": "fence host key",
+        "without_key": "fence host",
+        "with_holder": "fence reservation",
+    },
 }
 CLASSES = {
     "errors": {"SpindleError": {}, "NotValid": {}, "PowerOff": {}, "BadFlash": {}, "NoRoom": {}},
