@@ -5,6 +5,12 @@ import inspect
 import unittest
 from importlib import import_module
 
+from spindlegate.flash import Flash
+from spindlegate.log import Log
+from spindlegate.paths import Path
+from spindlegate.store import Store
+from spindlegate.subsystem import Subsystem
+
 # For each module: its functions, and its classes with their arguments and methods.
 FUNCTIONS = {
     "errors": {},
@@ -44,6 +50,10 @@ FUNCTIONS = {
         "without_key": "fence host",
         "with_holder": "fence reservation",
     },
+    "store": {},
+    "sessions": {},
+    "subsystem": {"is_command": "value", "answer_due": "state host key command order", "namespace_of": "command"},
+    "paths": {},
 }
 CLASSES = {
     "errors": {"SpindleError": {}, "NotValid": {}, "PowerOff": {}, "BadFlash": {}, "NoRoom": {}},
@@ -73,6 +83,45 @@ CLASSES = {
             "records": "self",
             "top": "self",
             "holders": "self record",
+        },
+    },
+    "store": {
+        "Store": {
+            "__init__": "self flash",
+            "next_order": "self",
+            "lasting_order": "self",
+            "records": "self",
+            "limit": "self",
+            "need": "self",
+            "need_with": "self kind host session counter fields",
+            "fits": "self kind host session counter fields",
+            "add": "self kind host session counter fields",
+            "flush": "self",
+        },
+    },
+    "sessions": {
+        "Sessions": {
+            "__init__": "self marks",
+            "mark_of": "self host",
+            "is_open": "self host",
+            "connecting": "self host number",
+            "next_told": "self host",
+            "begin": "self host number",
+            "kind_of": "self host session counter",
+            "kept_answer": "self host session counter",
+            "keep": "self host answer",
+        },
+    },
+    "subsystem": {"Subsystem": {"__init__": "self store run", "carry_out": "self letter", "rows": "self"}},
+    "paths": {
+        "Path": {
+            "__init__": "self",
+            "send": "self letter to_host",
+            "letters": "self to_host",
+            "deliver": "self index to_host",
+            "drop": "self index to_host",
+            "double": "self index to_host",
+            "set_up": "self up",
         },
     },
 }
@@ -106,6 +155,17 @@ class InterfaceTest(unittest.TestCase):
                 for method, expected in methods.items():
                     self.assertIn(method, own)
                     self.assertEqual(arguments(own[method]), expected)
+
+    def test_fields_are_there_from_the_beginning(self):
+        flash = Flash(8)
+        store = Store(flash)
+        cases = {
+            flash: "blocks", Log(flash): "flash", store: "flash log state waiting",
+            Subsystem(store, 0): "store run sessions", Path(): "up",
+        }
+        for made, fields in cases.items():
+            for field in fields.split():
+                self.assertIn(field, vars(made))
 
 
 if __name__ == "__main__":
