@@ -6,10 +6,12 @@ import unittest
 from importlib import import_module
 
 from spindlegate.flash import Flash
+from spindlegate.hosts import Host
 from spindlegate.log import Log
 from spindlegate.paths import Path
 from spindlegate.store import Store
 from spindlegate.subsystem import Subsystem
+from spindlegate.world import World
 
 # For each module: its functions, and its classes with their arguments and methods.
 FUNCTIONS = {
@@ -54,6 +56,10 @@ FUNCTIONS = {
     "sessions": {},
     "subsystem": {"is_command": "value", "answer_due": "state host key command order", "namespace_of": "command"},
     "paths": {},
+    "hosts": {},
+    "world": {},
+    "checks": {"check": "image", "image_records": "image", "image_need": "image", "spare_pages": "image"},
+    "judge": {"first_fault": "rows cuts", "judge": "rows cuts"},
 }
 CLASSES = {
     "errors": {"SpindleError": {}, "NotValid": {}, "PowerOff": {}, "BadFlash": {}, "NoRoom": {}},
@@ -124,6 +130,26 @@ CLASSES = {
             "set_up": "self up",
         },
     },
+    "hosts": {
+        "Host": {
+            "__init__": "self number",
+            "begin": "self command",
+            "again": "self",
+            "take": "self letter",
+            "key": "self namespace",
+            "ended": "self",
+            "lost": "self",
+        },
+    },
+    "world": {
+        "World": {
+            "__init__": "self blocks hosts",
+            "play": "self acts",
+            "history": "self",
+            "cuts": "self",
+            "state": "self",
+        },
+    },
 }
 
 
@@ -161,7 +187,8 @@ class InterfaceTest(unittest.TestCase):
         store = Store(flash)
         cases = {
             flash: "blocks", Log(flash): "flash", store: "flash log state waiting",
-            Subsystem(store, 0): "store run sessions", Path(): "up",
+            Subsystem(store, 0): "store run sessions", Path(): "up", Host(0): "number session counter state",
+            World(8, 1): "flash store hosts",
         }
         for made, fields in cases.items():
             for field in fields.split():
